@@ -1,8 +1,8 @@
 """What an instruction reads and changes: the state's numbers and the memory."""
 
+from highfirst.memory import Memory
 from highfirst.words import WORD, signed
 
-LAST_PLACE = 0xFFFF
 ALIGNED = 0xFFFFFFFC
 BELOW = 8
 ABOVE = 4
@@ -18,11 +18,9 @@ class Machine:
         self.ctr = state[35]
         self.pc = state[36]
         self.held = state[37]
-        self.memory = {}
-        for place, byte in zip(places, given):
-            self.memory[place] = byte
-        # What stood at each place ahead of the first writing: the answer tells real changes alone.
-        self.before = {}
+        self.memory = Memory(places, given)
+        # What was found for each word that was done: in a loop, finding it anew would take most of the time.
+        self.found = {}
         # Where this instruction stands and where the next one does, so that pc itself waits
         # until it is sure that the instruction is done: a trap leaves even pc's low bits.
         self.here = 0
@@ -43,30 +41,6 @@ class Machine:
 
     def base(self, number):
         return self.general[number] if number != 0 else 0
-
-    def load(self, place, size):
-        value = 0
-        for offset in range(size):
-            value = (value << 8) | self.memory.get((place + offset) & LAST_PLACE, 0)
-        return value
-
-    def store(self, place, size, value):
-        for offset in range(size):
-            shift = 8 * (size - 1 - offset)
-            self.store_byte((place + offset) & LAST_PLACE, (value >> shift) & 255)
-
-    def store_byte(self, place, byte):
-        if place not in self.before:
-            self.before[place] = self.memory.get(place, 0)
-        self.memory[place] = byte
-
-    def changes(self):
-        told = []
-        for place in sorted(self.before):
-            if self.memory[place] != self.before[place]:
-                told.append(place)
-                told.append(self.memory[place])
-        return told
 
     def summed_overflow(self):
         return self.xer >> 31

@@ -34,13 +34,23 @@ def find_action(word):
     return find_by_op(op)
 
 
+def find_again(machine, word):
+    if word not in machine.found:
+        machine.found[word] = find_action(word)
+    return machine.found[word]
+
+
+def is_done(ending):
+    return ending == DONE or ending == SYSTEM_CALL
+
+
 def do_instruction(machine):
     machine.begin()
-    word = machine.load(machine.here, 4)
-    action = find_action(word)
+    word = machine.memory.load(machine.here, 4)
+    action = find_again(machine, word)
     if action is None:
         return NO_INSTRUCTION
     ending = action(machine, word)
-    if ending == DONE or ending == SYSTEM_CALL:
+    if is_done(ending):
         machine.go_on()
     return ending

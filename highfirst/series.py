@@ -8,7 +8,7 @@ def load_to_last(machine, word):
     # The place is found first: A may be among those that are loaded.
     place = place_by_immediate(machine, word)
     for target in range(field_d(word), 32):
-        machine.general[target] = machine.load(place, 4)
+        machine.general[target] = machine.memory.load(place, 4)
         place = place + 4
     return DONE
 
@@ -16,7 +16,7 @@ def load_to_last(machine, word):
 def store_to_last(machine, word):
     place = place_by_immediate(machine, word)
     for source in range(field_d(word), 32):
-        machine.store(place, 4, machine.general[source])
+        machine.memory.store(place, 4, machine.general[source])
         place = place + 4
     return DONE
 
@@ -25,7 +25,7 @@ def load_bytes(machine, word, place, size):
     target = field_d(word)
     for offset in range(0, size, 4):
         part = min(4, size - offset)
-        machine.general[target] = machine.load(place + offset, part) << (8 * (4 - part))
+        machine.general[target] = machine.memory.load(place + offset, part) << (8 * (4 - part))
         target = (target + 1) & 31
     return DONE
 
@@ -34,7 +34,7 @@ def store_bytes(machine, word, place, size):
     source = field_d(word)
     for offset in range(0, size, 4):
         part = min(4, size - offset)
-        machine.store(place + offset, part, machine.general[source] >> (8 * (4 - part)))
+        machine.memory.store(place + offset, part, machine.general[source] >> (8 * (4 - part)))
         source = (source + 1) & 31
     return DONE
 
@@ -64,7 +64,9 @@ def store_written(machine, word):
 
 
 def clear_block(machine, word):
-    machine.store(place_by_b(machine, word) & 0xFFFFFFE0, 32, 0)
+    place = place_by_b(machine, word) & 0xFFFFFFE0
+    for offset in range(0, 32, 4):
+        machine.memory.store(place + offset, 4, 0)
     return DONE
 
 

@@ -58,7 +58,7 @@ def load_from(machine, word, row, place):
     base = field_a(word)
     if row[2] and (base == 0 or base == target):
         return NO_INSTRUCTION
-    value = machine.load(place, row[0])
+    value = machine.memory.load(place, row[0])
     machine.general[target] = (signed_half(value) & WORD) if row[1] else value
     if row[2]:
         machine.general[base] = place
@@ -69,7 +69,7 @@ def store_to(machine, word, row, place):
     base = field_a(word)
     if row[1] and base == 0:
         return NO_INSTRUCTION
-    machine.store(place, row[0], machine.general[field_d(word)])
+    machine.memory.store(place, row[0], machine.general[field_d(word)])
     if row[1]:
         machine.general[base] = place
     return DONE
@@ -100,18 +100,18 @@ def reverse_bytes(value, size):
 
 def load_reversed(machine, word):
     size = REVERSED_LOADS[number_of(word)]
-    machine.general[field_d(word)] = reverse_bytes(machine.load(place_by_b(machine, word), size), size)
+    machine.general[field_d(word)] = reverse_bytes(machine.memory.load(place_by_b(machine, word), size), size)
     return DONE
 
 
 def store_reversed(machine, word):
     size = REVERSED_STORES[number_of(word)]
-    machine.store(place_by_b(machine, word), size, reverse_bytes(machine.general[field_d(word)], size))
+    machine.memory.store(place_by_b(machine, word), size, reverse_bytes(machine.general[field_d(word)], size))
     return DONE
 
 
 def load_and_hold(machine, word):
-    machine.general[field_d(word)] = machine.load(place_by_b(machine, word), 4)
+    machine.general[field_d(word)] = machine.memory.load(place_by_b(machine, word), 4)
     machine.held = 1
     return DONE
 
@@ -121,7 +121,7 @@ def store_if_held(machine, word):
         return NO_INSTRUCTION
     was_held = machine.held == 1
     if was_held:
-        machine.store(place_by_b(machine, word), 4, machine.general[field_d(word)])
+        machine.memory.store(place_by_b(machine, word), 4, machine.general[field_d(word)])
     machine.held = 0
     # No number is compared here: the field tells alone whether it was stored.
     machine.set_condition_field(0, (2 if was_held else 0) | machine.summed_overflow())

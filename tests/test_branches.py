@@ -2,15 +2,7 @@
 
 import itertools
 
-from tests.support import PC, WORD, StepCase, plain, three
-
-
-def branch(distance, absolute=0, r=0):
-    return 18 << 26 | distance & 0x03FFFFFC | absolute << 1 | r
-
-
-def conditional(d, a, distance, absolute=0, r=0):
-    return plain(16, d, a, distance & 0xFFFC | absolute << 1 | r)
+from tests.support import PC, WORD, StepCase, branch, conditional, plain, three
 
 
 def is_taken(d, ctr_then, bit):

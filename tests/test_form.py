@@ -28,6 +28,7 @@ UNUSED_NAMES = ("register mro elements open input version_info with_traceback ad
 UNUSED_WORDS = ("type typing typing_extensions enum Enum IntEnum StrEnum Flag IntFlag Generic Protocol ABC ABCMeta "
                 "namedtuple NamedTuple TypedDict TYPE_CHECKING abstractmethod").split()
 UNUSED_PARTS = ("dataclass", "overload", "contextmanager")
+WALKED = ("zip", "enumerate", "reversed", "range", "items", "keys", "values")
 DUNDER_METHODS = ("__init__", "__eq__", "__repr__", "__str__", "__len__")
 FILE_NAMES_NOT_USED = ("test", "tests", "testing", "site", "conftest", "sitecustomize", "usercustomize")
 
@@ -254,6 +255,32 @@ class Bodies(unittest.TestCase):
                 if isinstance(node, ast.Call) and isinstance(node.func, ast.Attribute):
                     self.assertIn(node.func.attr, allowed, name)
 
+    def test_walked_at_once(self):
+        for name, tree in trees().items():
+            walked = [node.iter for node in ast.walk(tree) if isinstance(node, (ast.For, ast.comprehension))]
+            for node in ast.walk(tree):
+                if isinstance(node, ast.Call) and self.called(node) in WALKED:
+                    self.assertIn(node, walked, (name, node.lineno))
+
+    def called(self, node):
+        return node.func.id if isinstance(node.func, ast.Name) else getattr(node.func, "attr", None)
+
+    def test_methods_are_called_where_they_stand(self):
+        methods = METHODS + own_methods()
+        for name, tree in trees().items():
+            called = [node.func for node in ast.walk(tree) if isinstance(node, ast.Call)]
+            for node in ast.walk(tree):
+                if isinstance(node, ast.Attribute) and node.attr in methods:
+                    self.assertIn(node, called, (name, node.lineno))
+
+    def test_classes_are_called_alone(self):
+        classes = [node.name for tree in trees().values() for node in ast.walk(tree) if isinstance(node, ast.ClassDef)]
+        for name, tree in trees().items():
+            called = [node.func for node in ast.walk(tree) if isinstance(node, ast.Call)]
+            for node in ast.walk(tree):
+                if isinstance(node, ast.Name) and node.id in classes:
+                    self.assertIn(node, called, (name, node.lineno))
+
     def test_classes(self):
         taken = [word for kind in (str, int, list, dict, set, bytes, tuple) for word in dir(kind)]
         for name, tree in trees().items():
@@ -272,4 +299,4 @@ class Bodies(unittest.TestCase):
         self.assertEqual(len(methods), len(set(methods)))
         for part in ast.walk(node):
             if isinstance(part, ast.Attribute) and isinstance(part.ctx, ast.Store):
-                self.assertNotIn(part.attr, methods + taken)
+                self.assertNotIn(part.attr, own_methods() + taken)

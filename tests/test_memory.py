@@ -4,7 +4,8 @@ import itertools
 
 from highfirst.desk import step
 
-from tests.support import EDGES, PC, SO, WORD, StepCase, bytes_of, changed_state, lay, plain, start, three
+from tests.support import EDGES, PC, SO, WORD, StepCase, bytes_of, changed_state, lay, plain, real_changes, start
+from tests.support import three
 
 # (number of bytes, with their sign)
 LOADS = {32: (4, False), 34: (1, False), 40: (2, False), 42: (2, True)}
@@ -30,10 +31,6 @@ def around(place, values):
 
 
 OLD = (0x12, 0x34, 0, 0xFF)
-
-
-def real_changes(old, new):
-    return {place: byte for place, byte in new.items() if old.get(place, 0) != byte}
 
 
 class Loads(StepCase):

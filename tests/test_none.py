@@ -1,16 +1,6 @@
 """What is an instruction and what is none, and the bits that aren't looked at."""
 
-from tests.support import WORD, StepCase, lay, plain, three, turning
-
-OPS = (3, 7, 8, 10, 11, 12, 13, 14, 15, 16, 17, 18, 20, 21, 23, 24, 25, 26, 27, 28, 29, 32, 33, 34, 35, 36, 37, 38,
-       39, 40, 41, 42, 43, 44, 45, 46, 47)
-NUMBERS_OF_19 = (0, 16, 528, 33, 129, 193, 225, 257, 289, 417, 449, 150)
-# These may have bit 10, which is O.
-CALCULATING = (266, 10, 40, 8, 138, 136, 202, 200, 234, 232, 104, 235, 491, 459)
-OTHERS = (75, 11, 28, 60, 124, 284, 316, 412, 444, 476, 26, 922, 954, 24, 536, 792, 824, 0, 32, 4, 19, 144, 512, 339,
-          467, 23, 87, 279, 343, 151, 215, 407, 55, 119, 311, 375, 183, 247, 439, 534, 790, 662, 918, 20, 150, 533,
-          661, 597, 725, 1014, 54, 86, 246, 278, 598, 854, 982)
-NUMBERS_OF_31 = CALCULATING + tuple(number + 512 for number in CALCULATING) + OTHERS
+from tests.support import NUMBERS_OF_19, NUMBERS_OF_31, OPS, WORD, StepCase, lay, plain, three, turning
 
 LOW = 1
 D = 31 << 21
